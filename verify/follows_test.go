@@ -425,7 +425,7 @@ func allTries(long int) []api.Try {
 	return l
 }
 
-// P11.4: all short code, with no Try, with each, and with pairs.
+// P11.4: all code of at most four of few's instructions: without a Try, with each one (of the longest code an eighth of them), and with some pairs.
 func TestShortCode(t *testing.T) {
 	came := map[api.Errno]int{}
 	for long := 1; long <= 4; long++ {
