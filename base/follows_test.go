@@ -74,6 +74,7 @@ type race struct {
 	im      api.Image
 	heights [][]int
 	m       *Machine
+	witness *witness // nil: nobody oversees the machine
 	model   *model
 	pairs   []pair
 	came    map[string]int
@@ -82,6 +83,10 @@ type race struct {
 func newRace(t *testing.T, r *rand.Rand, im api.Image, most, depth int, came map[string]int) *race {
 	t.Helper()
 	c := &race{t: t, r: r, im: im, m: machineOf(t, im, most, depth), model: newModel(im, most, depth), came: came}
+	if r.Intn(2) == 0 {
+		c.witness = &witness{}
+		c.m, _ = NewUnder(im, most, depth, c.witness)
+	}
 	for f := range im.Funs {
 		h, e := verify.Heights(im, f)
 		if e != api.OK {
@@ -117,6 +122,9 @@ func (c *race) check() {
 	}
 	if !slices.Equal(out, c.model.texts) {
 		c.fail("texts", out, c.model.texts)
+	}
+	if c.witness != nil && !slices.Equal(c.witness.told, c.model.told) {
+		c.fail("told", c.witness.told, c.model.told)
 	}
 	for _, p := range c.pairs {
 		if p.x.Waits() != p.s.waits || p.x.Ended() != p.s.ended {

@@ -9,18 +9,28 @@ import (
 
 // frame is an ordinary call of a function.
 type frame struct {
-	thread *Thread
-	fun    int
-	code   *api.Code
-	at     int // the next instruction: the one that is being done, or waited for, stands ahead of it
-	slots  []api.Value
-	stack  []api.Value
-	cells  []api.Value
-	handOn func(api.Value)
+	Seat
+	fun   int
+	code  *api.Code
+	at    int // the next instruction: the one that is being done, or waited for, stands ahead of it
+	slots []api.Value
+	stack []api.Value
 }
 
-func (f *frame) view() api.View {
-	return api.View{Fun: f.fun, At: f.at, Slots: slices.Clone(f.slots), Stack: slices.Clone(f.stack), Cells: slices.Clone(f.cells)}
+func newFrame(s Seat, fun int, slots []api.Value) *frame {
+	f := &frame{Seat: s, fun: fun, code: &s.thread.machine.image.Funs[fun], slots: slots}
+	f.take = f.push
+	return f
+}
+
+func (f *frame) views() []api.View {
+	return []api.View{{
+		Fun:   f.fun,
+		At:    f.at,
+		Slots: slices.Clone(f.slots),
+		Stack: slices.Clone(f.stack),
+		Cells: slices.Clone(f.cells),
+	}}
 }
 
 // push puts a value on the stack: one of its own, or what it has waited for.
@@ -54,8 +64,8 @@ func (f *frame) catch(v api.Value) bool {
 	return false
 }
 
-// goOn does instructions; the safe ones, and those that concern other calls, are the last.
-func (f *frame) goOn() api.Stop {
+// GoOn does instructions; the safe ones, and those that concern other calls, are the last.
+func (f *frame) GoOn() api.Stop {
 	for {
 		i := f.code.Code[f.at]
 		f.at++
@@ -72,29 +82,28 @@ func (f *frame) goOn() api.Stop {
 			f.keep(true, i.A)
 		case api.OpLoop:
 			f.at = i.A
+			f.overseer().Looped(f.fun)
 			return safe()
 		case api.OpStoreGlobal:
-			f.thread.machine.globals[i.A] = f.pop()
+			f.SetGlobal(i.A, f.pop())
 			return safe()
 		case api.OpCall:
-			return f.doCall(f.popAll(i.A + 1))
+			return f.Call(f.popAll(i.A + 1))
 		case api.OpSpawn:
-			return f.doSpawn(f.popAll(i.A + 1))
+			return f.Spawn(f.popAll(i.A + 1))
 		case api.OpReturn:
-			v := f.pop()
-			f.thread.leave()
-			f.handOn(v)
-			return safe() // unless that ended the thread
+			return f.Return(f.pop())
 		case api.OpThrow:
-			f.thread.throw(f.pop())
-			return api.Stop{}
+			return f.Throw(f.pop())
 		default:
 			if fault := f.plain(i); fault != api.FaultNone {
-				return f.fail(fault)
+				return f.Fault(fault)
 			}
 		}
 	}
 }
+
+func (f *frame) overseer() Overseer { return f.thread.machine.overseer }
 
 func safe() api.Stop { return api.Stop{Kind: api.StopSafe} }
 
@@ -105,17 +114,4 @@ func (f *frame) keep(truth bool, at int) {
 		f.push(v)
 		f.at = at
 	}
-}
-
-// fail: the thread goes on where the fault is caught, if it is.
-func (f *frame) fail(fault int) api.Stop {
-	f.thread.fault(fault)
-	return api.Stop{}
-}
-
-// wait stops the thread till it is handed what goes on the stack here.
-func (f *frame) wait(s api.Stop) api.Stop {
-	p := &pending{stop: s, handOn: f.push}
-	f.thread.calls = append(f.thread.calls, p)
-	return p.goOn()
 }

@@ -20,6 +20,7 @@ type model struct {
 	texts   []string
 	depth   int
 	done    map[string]int // which instructions were done how often
+	told    []event        // what whoever oversees it must be told
 }
 
 func newModel(im api.Image, most, depth int) *model {
@@ -197,6 +198,7 @@ func (s *stroll) enter(f int, cells, args []api.Value) int {
 		c.Slots[i] = v
 	}
 	s.calls = append(s.calls, c)
+	s.told = append(s.told, event{what: "began", fun: f})
 	return 0
 }
 
@@ -283,10 +285,12 @@ func (s *stroll) do(c *api.View, i api.Instr, l []api.Value) {
 	case "fun":
 		v, e = s.h.Fun(i.A, s.takenAlong(c, i.A))
 	case "bin":
+		s.told = append(s.told, event{what: "had", fun: c.Fun, at: c.At - 1, a: l[0], b: l[1]})
 		v, x = prim.Bin(s.h, i.A, l[0], l[1])
 	case "not":
 		v = tag.Bool(l[0] == api.Nil || l[0] == api.False)
 	case "neg":
+		s.told = append(s.told, event{what: "had", fun: c.Fun, at: c.At - 1, a: l[0], b: l[0]})
 		v, x = prim.Neg(s.h, l[0])
 	case "index":
 		v, x = prim.Index(s.h, l[0], l[1])
@@ -329,6 +333,7 @@ func (s *stroll) doOther(c *api.View, i api.Instr, l []api.Value) {
 		s.intoCell(ownCell(c, i.A), l[0])
 	case "storeglobal":
 		s.globals[i.A] = l[0]
+		s.told = append(s.told, event{what: "wrote", at: i.A, a: l[0]})
 		s.halt(api.Stop{Kind: api.StopSafe})
 	case "setindex":
 		s.fail(prim.SetIndex(s.h, l[0], l[1], l[2]))
@@ -338,6 +343,7 @@ func (s *stroll) doOther(c *api.View, i api.Instr, l []api.Value) {
 		panic(thrown(l[0]))
 	case "loop":
 		c.At = i.A
+		s.told = append(s.told, event{what: "looped", fun: c.Fun})
 		s.halt(api.Stop{Kind: api.StopSafe})
 	case "jump":
 		c.At = i.A

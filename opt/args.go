@@ -8,7 +8,8 @@ import (
 // isPlace: is it one of so many places?
 func isPlace(i, many int) bool { return i >= 0 && i < many }
 
-func isHow(how api.How) bool {
+// IsHow: is it one by which code can be made?
+func IsHow(how api.How) bool {
 	return isPlace(how.Fold, 2) && isPlace(how.Guard, 2) && isPlace(how.Inline, api.MaxInline+1)
 }
 
